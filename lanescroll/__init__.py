@@ -1,0 +1,1 @@
+"""Lanescroll: pictures in lanes, in pieces that come in any order."""
