@@ -39,25 +39,42 @@ def is_moment(thing):
     return is_fraction(thing) and thing[0] >= 0
 
 
+def summed(one, top, bottom):
+    """The sum of a fraction and of top over bottom, which are in lowest terms."""
+    # Divisors are sought of the bottoms, not of the sum: a long fraction and a short one are summed fast so.
+    divisor = common_divisor(one[1], bottom)
+    part = bottom // divisor
+    whole = one[0] * part + top * (one[1] // divisor)
+    rest = common_divisor(abs(whole), divisor)
+    return (whole // rest, part * (one[1] // rest))
+
+
 def plus(one, other):
     """The sum of two fractions."""
-    return fraction(one[0] * other[1] + other[0] * one[1], one[1] * other[1])
+    return summed(one, other[0], other[1])
 
 
 def minus(one, other):
     """The first fraction less the second."""
-    return fraction(one[0] * other[1] - other[0] * one[1], one[1] * other[1])
+    return summed(one, -other[0], other[1])
 
 
 def times(one, other):
     """The product of two fractions."""
-    return fraction(one[0] * other[0], one[1] * other[1])
+    # Shortened crosswise ahead of the product, for the same reason as sums are.
+    left = common_divisor(abs(one[0]), other[1])
+    right = common_divisor(abs(other[0]), one[1])
+    return ((one[0] // left) * (other[0] // right), (one[1] // right) * (other[1] // left))
 
 
 def shared(one, other):
     """The first fraction over the second."""
-    # A second one of nought makes the bottom 0, which fraction refuses.
-    return fraction(one[0] * other[1], one[1] * other[0])
+    top, bottom = other
+    if top == 0:
+        raise NoFraction("nothing can be shared by nought")
+    if top < 0:
+        top, bottom = -top, -bottom
+    return times(one, (bottom, top))
 
 
 def less(one, other):

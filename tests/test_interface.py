@@ -20,6 +20,58 @@ FUNCTIONS = {
         "less": "(one, other)",
         "floor": "(one)",
     },
+    "lanescroll.rules": {
+        "rule_of": "(told)",
+    },
+    "lanescroll.leaves": {
+        "leaf_of": "(told)",
+        "fits": "(leaf, number, wide)",
+    },
+    "lanescroll.edits": {
+        "is_edits": "(thing)",
+        "mapped": "(edits, t)",
+        "total": "(edits)",
+        "tidy": "(edits)",
+        "parted": "(one, other)",
+        "over": "(outer, inner)",
+        "part": "(edits, low, high)",
+        "after": "(one, other)",
+        "stretches": "(edits, low, high)",
+    },
+    "lanescroll.films": {
+        "film_of": "(told)",
+    },
+}
+
+RULE = {"told": "(self)", "needs": "(self)", "value": "(self, found)"}
+LEAF = {"told": "(self)", "cells": "(self)", "rule": "(self, cell)"}
+CLASSES = {
+    "lanescroll.rules": {
+        "Rule": (None, RULE),
+        "Plain": ("(value)", RULE),
+        "Moved": ("(back, cell, add)", RULE),
+        "Mixed": ("(back, cell, other_back, other_cell)", RULE),
+    },
+    "lanescroll.leaves": {
+        "Leaf": ("(begin, span)", LEAF),
+        "Full": ("(begin, span, values)", LEAF),
+        "Still": ("(begin, span, back)", LEAF),
+        "Woven": ("(begin, span, rules)", LEAF),
+    },
+    "lanescroll.films": {
+        "Film": (None, {
+            "told": "(self)",
+            "units": "(self, lane)",
+            "many": "(self, lane)",
+            "edits": "(self, lane)",
+            "told_leaf": "(self, lane, number)",
+            "length": "(self)",
+            "read": "(self, lane)",
+            "picture": "(self, lane, number)",
+            "leaf_at": "(self, lane, x)",
+            "shown": "(self, lane, t)",
+        }),
+    },
 }
 
 
@@ -33,6 +85,27 @@ class Interface(unittest.TestCase):
                     self.assertTrue(inspect.isfunction(found))
                     self.assertEqual(str(inspect.signature(found)), arguments)
                     self.assertEqual(found.__module__, home)
+
+    def test_classes_have_their_arguments_and_their_home(self):
+        for home, classes in CLASSES.items():
+            module = importlib.import_module(home)
+            for name, (arguments, methods) in classes.items():
+                with self.subTest(home=home, name=name):
+                    found = getattr(module, name)
+                    self.assertTrue(inspect.isclass(found))
+                    self.assertEqual(found.__module__, home)
+                    if arguments is not None:
+                        self.assertEqual(str(inspect.signature(found)), arguments)
+
+    def test_methods_stand_in_their_class_itself(self):
+        for home, classes in CLASSES.items():
+            module = importlib.import_module(home)
+            for name, (arguments, methods) in classes.items():
+                for method, method_arguments in methods.items():
+                    with self.subTest(home=home, name=name, method=method):
+                        found = vars(getattr(module, name))[method]
+                        self.assertTrue(inspect.isfunction(found))
+                        self.assertEqual(str(inspect.signature(found)), method_arguments)
 
 
 if __name__ == "__main__":

@@ -22,3 +22,40 @@ def no_numbers():
 def no_tuples():
     """Things that are no tuples, made anew for each asker."""
     return [0, 1, -1, FORTY] + [thing for thing in no_numbers() if not isinstance(thing, tuple)]
+
+
+class Touchy:
+    """An object that may be asked for nothing, not even whether it is like another one."""
+
+    def __eq__(self, other):
+        raise AssertionError("asked for ==")
+
+    def __len__(self):
+        raise AssertionError("asked for len")
+
+    def __bool__(self):
+        raise AssertionError("asked for its truth")
+
+    __hash__ = None
+
+
+def endless():
+    """A list that is its own only thing."""
+    thing = []
+    thing.append(thing)
+    return thing
+
+
+def anything():
+    """Things of all kinds, tuples and lists that hold odd things too; none is told of by the document."""
+    return no_numbers() + [
+        0, 1, -1, 10 ** 60, 10 ** 5000, -10 ** 5000, Touchy(), (Touchy(),), [Touchy()], (Touchy(),) * 3,
+        [Touchy()] * 3, endless(), (endless(),) * 2, (endless(),) * 3, (endless(),) * 4, (None,) * 3, [None] * 3,
+        ("",) * 3, "plain", "full", ("plain",), ("full",), ["plain", 1], ((),) * 4, [[]] * 4,
+        (0,) * 1000, [0, 1] * 1000, "a" * 1000,
+    ]
+
+
+def wrong_whole(low, high):
+    """Things that are no whole numbers from low to high, the neighbours of both ends among them."""
+    return [low - 1, high + 1, -10 ** 60, 10 ** 60 + 1, 10 ** 5000, Touchy(), endless()] + no_numbers()
