@@ -1,11 +1,11 @@
 """Leaves: pictures of a few cells, each shown for a stretch of its lane's time."""
 
 from lanescroll.errors import NoCell, NoLeaf
-from lanescroll.rules import LAST_CELL, Moved, Plain, is_back, is_rule, is_value, rule_of
+from lanescroll.rules import Moved, Plain, is_back, is_rule, is_value, rule_of
 from lanescroll.wholes import is_whole
 
 GREATEST_TIME = 10 ** 9
-MOST_CELLS = LAST_CELL + 1
+MOST_CELLS = 16
 
 
 class Leaf:

@@ -305,6 +305,22 @@ class Parted(EditsCase):
         self.assert_parted(same, same + [edit(1, 7, 1)])
 
 
+class Borders(EditsCase):
+    def test_of_one_and_of_two_lists(self):
+        for seed in range(60):
+            chance = dice(seed)
+            one, other = some_edits(chance), some_edits(chance)
+            self.assertEqual(module.borders(one), [told(t) for t in ends(one)])
+            found = module.merged(module.borders(one), module.borders(other))
+            self.assertEqual(found, [told(t) for t in ends(one, other)])
+
+    def test_lists_that_have_no_moment_in_common(self):
+        one, other = [(1, 2), (3, 1), (5, 1)], [(0, 1), (1, 1), (2, 1), (4, 1), (6, 1), (7, 1)]
+        right = [(0, 1), (1, 2), (1, 1), (2, 1), (3, 1), (4, 1), (5, 1), (6, 1), (7, 1)]
+        self.assertEqual(module.merged(one, other), right)
+        self.assertEqual(module.merged(other, one), right)
+
+
 class Over(EditsCase):
     def assert_over(self, outer, inner):
         found = over(outer, inner)

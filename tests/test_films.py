@@ -146,7 +146,8 @@ class Lanes(FilmCase):
             ("full", 50, 1, (1,)), ("full", 50, 1, (1, 2, 3)), ("still", 50, 1, 4), ("still", 50, 1, 200),
             ("woven", 50, 1, (("plain", 1),)), ("woven", 50, 1, (("plain", 1),) * 3),
             ("woven", 50, 1, (("plain", 1), ("moved", 4, 0, 0))), ("woven", 50, 1, (("moved", 1, 2, 0), ("plain", 1))),
-            ("woven", 50, 1, (("mixed", 1, 0, 4, 0), ("plain", 1))), ("woven", 50, 1, (("mixed", 1, 0, 1, 2), ("plain", 1))),
+            ("woven", 50, 1, (("mixed", 1, 0, 4, 0), ("plain", 1))),
+            ("woven", 50, 1, (("mixed", 1, 0, 1, 2), ("plain", 1))),
         ):
             self.assert_lane_none(lane_with(1, LEAVES + [wrong]), 3)
             self.assert_lane_none(lane_with(1, LEAVES + [wrong, None]), 3)
@@ -211,8 +212,8 @@ class LaneEdits(FilmCase):
         bound = 10 ** 30
         for number, right in ((bound, True), (bound - 1, True), (bound + 1, False), (bound * 10 + 1, False)):
             for wanted in (
-                edit(number, 0, 1), edit(Fraction(1, number), 0, 1), edit(1, number, 1), edit(1, Fraction(1, number), 1),
-                edit(1, 0, number), edit(1, 0, Fraction(1, number)), edit(number), edit(Fraction(1, number)),
+                edit(number, 0, 1), edit(Fraction(1, number), 0, 1), edit(number), edit(Fraction(1, number)),
+                edit(1, number, 1), edit(1, Fraction(1, number), 1), edit(1, 0, number), edit(1, 0, Fraction(1, number)),
             ):
                 for edits in ([wanted], EDITS + [wanted], [wanted] + EDITS):
                     with self.subTest(number=number, wanted=wanted):

@@ -41,6 +41,31 @@ FUNCTIONS = {
     "lanescroll.films": {
         "film_of": "(told)",
     },
+    "lanescroll.chains": {
+        "known": "(leaves, number, cell)",
+        "table": "(leaves, number, cell)",
+        "needed": "(leaves, wide, numbers)",
+    },
+    "lanescroll.rows": {
+        "written": "(number)",
+        "read_number": "(row, at=0)",
+        "check": "(row)",
+        "stuffed": "(row)",
+        "unstuffed": "(row)",
+    },
+    "lanescroll.boxes": {
+        "box": "(kind, body)",
+        "box_at": "(row, at=0)",
+        "boxes_in": "(row)",
+    },
+    "lanescroll.bodies": {
+        "head_body": "(head)",
+        "piece_body": "(piece)",
+        "index_body": "(index)",
+        "read_head": "(body)",
+        "read_piece": "(body)",
+        "read_index": "(body)",
+    },
 }
 
 RULE = {"told": "(self)", "needs": "(self)", "value": "(self, found)"}
@@ -71,6 +96,9 @@ CLASSES = {
             "leaf_at": "(self, lane, x)",
             "shown": "(self, lane, t)",
         }),
+    },
+    "lanescroll.boxes": {
+        "Feed": ("()", {"take": "(self, part)", "taken": "(self)"}),
     },
 }
 

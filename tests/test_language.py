@@ -106,6 +106,10 @@ class Code(unittest.TestCase):
         for path, text in sources():
             for node in ast.parse(text).body:
                 self.assertIsInstance(node, TOP_NODES, (path.name, node.lineno))
+                if isinstance(node, ast.Assign):
+                    self.assertEqual(len(node.targets), 1)
+                    inner = list(ast.walk(node.value))
+                    self.assertFalse([part for part in inner if isinstance(part, (ast.Name, ast.Call))], path.name)
 
     def test_imports_come_from_the_package_by_full_names(self):
         for place, node in each_node():
