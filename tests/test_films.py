@@ -213,7 +213,8 @@ class LaneEdits(FilmCase):
         for number, right in ((bound, True), (bound - 1, True), (bound + 1, False), (bound * 10 + 1, False)):
             for wanted in (
                 edit(number, 0, 1), edit(Fraction(1, number), 0, 1), edit(number), edit(Fraction(1, number)),
-                edit(1, number, 1), edit(1, Fraction(1, number), 1), edit(1, 0, number), edit(1, 0, Fraction(1, number)),
+                edit(1, number, 1), edit(1, Fraction(1, number), 1),
+                edit(1, 0, number), edit(1, 0, Fraction(1, number)),
             ):
                 for edits in ([wanted], EDITS + [wanted], [wanted] + EDITS):
                     with self.subTest(number=number, wanted=wanted):
