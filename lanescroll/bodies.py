@@ -263,3 +263,33 @@ def read_index(body):
     if not numbers.is_over() or not is_index(index):
         raise NoBody("this is no index's body")
     return index
+
+
+def head_in(kind, body):
+    """The head that a box of this kind and body has, None where it has none."""
+    if kind != HEAD:
+        return None
+    try:
+        return read_head(body)
+    except NoBody:
+        return None
+
+
+def piece_in(kind, body):
+    """The piece that a box of this kind and body has, None where it has none."""
+    if kind != PIECE:
+        return None
+    try:
+        return read_piece(body)
+    except NoBody:
+        return None
+
+
+def index_in(kind, body):
+    """The index that a box of this kind and body has, None where it has none."""
+    if kind != INDEX:
+        return None
+    try:
+        return read_index(body)
+    except NoBody:
+        return None

@@ -1,6 +1,7 @@
 """The bounds that a film, its lanes and what is written of them have in common."""
 
 from lanescroll.edits import is_edits
+from lanescroll.errors import NoLane
 from lanescroll.wholes import is_whole
 
 GREATEST_SEAL = 10 ** 9
@@ -30,6 +31,12 @@ def is_units(thing):
 def is_list(thing, low, high):
     """Whether the thing is a list of low to high things."""
     return isinstance(thing, list) and low <= len(thing) <= high
+
+
+def refuse_no_lane(lane, many):
+    """Refuses what is none of so many lanes."""
+    if not is_whole(lane, 0, many - 1):
+        raise NoLane("there is no such lane")
 
 
 def is_small_edit(edit):

@@ -108,9 +108,8 @@ def box(kind, body):
     return list(START) + [kind] + stuffed(written(len(body)) + body + sum_of(kind, body)) + [END]
 
 
-def box_at(row, at=0):
-    """The tuple (kind, body, end) of the box that stands in the row from a place on, None where none does."""
-    refuse_no_place(row, at)
+def standing_at(row, at):
+    """What box_at tells, of what must be a row of bytes and a number from 0 on."""
     if row[at:at + 3] != list(START):
         return None
     growing = Growing(at)
@@ -120,6 +119,17 @@ def box_at(row, at=0):
         if growing.closed:
             return (growing.kind, growing.body(), place + 1)
     return None
+
+
+def box_at(row, at=0):
+    """The tuple (kind, body, end) of the box that stands in the row from a place on, None where none does."""
+    refuse_no_place(row, at)
+    return standing_at(row, at)
+
+
+def starts_in(row):
+    """The rising list of the places at which a START stands in what must be a row of bytes."""
+    return [at for at in range(len(row) - 2) if row[at] == 0 and row[at + 1] == 0 and row[at + 2] == 1]
 
 
 def boxes_in(row):

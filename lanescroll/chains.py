@@ -75,3 +75,35 @@ def needed(leaves, wide, numbers):
     """The rising list of the numbers of all leaves on which the pictures of these numbers hang."""
     origins = traced(leaves, [(number, cell) for number in numbers for cell in range(wide)])
     return sorted({number for number, cell in origins})
+
+
+def known_value(rule, number, pictures):
+    """The value of a rule of the leaf of this number, of the pictures ahead; None where a need isn't known."""
+    found = []
+    for back, cell in rule.needs():
+        if number - back not in pictures or pictures[number - back][cell] is None:
+            return None
+        found.append(pictures[number - back][cell])
+    return rule.value(found)
+
+
+def known_pictures(leaves, wide):
+    """A dict from the numbers of the leaves to their pictures, None in the place of each cell that isn't known."""
+    pictures = {}
+    # Needs have lesser numbers, so each cell is found but once, however many others hang on it.
+    for number in sorted(leaves):
+        rules = [leaves[number].rule(cell) for cell in range(wide)]
+        pictures[number] = tuple([known_value(rule, number, pictures) for rule in rules])
+    return pictures
+
+
+def first_begins(leaves, wide):
+    """For each of a list of leaves the least begin of one of them with a cell that hangs on a cell of it."""
+    begins = [[leaf.begin] * wide for leaf in leaves]
+    # From the last leaf on: when a cell's turn comes, all that hang on it have had theirs.
+    for number in range(len(leaves) - 1, -1, -1):
+        for cell in range(wide):
+            for back, needed_cell in leaves[number].rule(cell).needs():
+                row = begins[number - back]
+                row[needed_cell] = min(row[needed_cell], begins[number][cell])
+    return [min(row) for row in begins]

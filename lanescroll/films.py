@@ -1,10 +1,13 @@
 """Films: lanes of leaves, with edits that lead the film's moments to a lane's."""
 
-from lanescroll.bounds import MOST_LANES, MOST_LEAVES, is_lane_edits, is_list, is_seal, is_units, is_wide
-from lanescroll.edits import led, summed_spans
-from lanescroll.errors import NoFilm, NoLane, NoLeaf, NoMoment, NoNumber
-from lanescroll.leaves import fits, leaf_of
-from lanescroll.ratios import is_moment, less
+from lanescroll.bounds import (
+    MOST_LANES, MOST_LEAVES, is_lane_edits, is_list, is_seal, is_units, is_wide, refuse_no_lane,
+)
+from lanescroll.chains import first_begins
+from lanescroll.edits import led, refuse_no_moment, summed_spans
+from lanescroll.errors import NoFilm, NoLeaf, NoNumber
+from lanescroll.leaves import fits, is_shown, leaf_of, unit_at
+from lanescroll.ratios import less
 from lanescroll.wholes import is_whole
 
 
@@ -15,8 +18,9 @@ class Lane:
         self.scale = scale
         self.leaves = leaves
         self.leading = leading
-        # The plain reading, made when it is asked for first: a lane never changes.
+        # The plain reading and the dues, made when they are asked for first: a lane never changes.
         self.reading = None
+        self.due_units = None
 
     def told(self):
         """The tuple that tells the lane."""
@@ -28,12 +32,17 @@ class Lane:
             self.reading = plain_reading(self.leaves, wide)
         return self.reading
 
+    def dues(self, wide):
+        """The units from which on the leaves are needed, by number."""
+        if self.due_units is None:
+            self.due_units = first_begins(self.leaves, wide)
+        return self.due_units
+
     def number_at(self, x):
         """The number of the leaf that is shown at a moment of the lane's own time, or None."""
-        # Begins and ends are whole units, so the whole unit in which x lies decides.
-        unit = x[0] * self.scale // x[1]
+        unit = unit_at(x, self.scale)
         for number, leaf in enumerate(self.leaves):
-            if leaf.begin <= unit < leaf.begin + leaf.span:
+            if is_shown(leaf, unit):
                 return number
         return None
 
@@ -54,8 +63,7 @@ class Film:
 
     def found_lane(self, lane):
         """The Lane of this number."""
-        if not is_whole(lane, 0, len(self.lanes) - 1):
-            raise NoLane("there is no such lane")
+        refuse_no_lane(lane, len(self.lanes))
         return self.lanes[lane]
 
     def lane_with(self, lane, number):
@@ -68,8 +76,7 @@ class Film:
     def lane_for(self, lane, moment):
         """The Lane of this number, asked for a moment."""
         found = self.found_lane(lane)
-        if not is_moment(moment):
-            raise NoMoment("this is no moment")
+        refuse_no_moment(moment)
         return found
 
     def told(self):

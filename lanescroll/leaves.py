@@ -130,6 +130,16 @@ def leaf_of(told):
     return Woven(begin, span, held)
 
 
+def unit_at(x, units):
+    """The whole unit in which a moment of a lane's own time lies, of so many units to the second."""
+    return x[0] * units // x[1]
+
+
+def is_shown(leaf, unit):
+    """Whether the leaf is shown within a whole unit: begins and ends are whole, so it is all the way or nowhere."""
+    return leaf.begin <= unit < leaf.begin + leaf.span
+
+
 def fits(leaf, number, wide):
     """Whether the Leaf may have this number in a lane whose pictures have so many cells."""
     many = leaf.cells()

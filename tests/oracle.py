@@ -200,3 +200,22 @@ def leaf_at(lane, x):
         if Fraction(begin, units) <= x < Fraction(begin + span, units):
             return number
     return None
+
+
+def needs(told, wide, pair):
+    """The needs of a cell, as pairs (number, cell)."""
+    if pair[0] not in told:
+        return []
+    rule = rules_of(told[pair[0]], wide)[pair[1]]
+    return [(pair[0] - back, cell) for back, cell in rule_needs(rule)]
+
+
+def hung_on(told, wide, number, cell):
+    """The set of the pairs on which a cell hangs, as far as the leaves as told tell."""
+    found, waiting = set(), [(number, cell)]
+    while waiting:
+        pair = waiting.pop()
+        if pair not in found:
+            found.add(pair)
+            waiting += needs(told, wide, pair)
+    return found

@@ -7,8 +7,9 @@ from fractions import Fraction
 from lanescroll.bodies import HEAD, INDEX, PIECE, head_body, index_body, piece_body, read_head, read_index, read_piece
 from lanescroll.boxes import box, box_at
 from lanescroll.errors import NoBody
+from tests.byhand import numbers_row
 from tests.oracle import dice, edit, some_edits, some_leaf
-from tests.things import anything, no_numbers, wrong_whole
+from tests.things import anything, no_rows, wrong_whole
 
 EDITS = [edit(3, 0, 1), edit(Fraction(1, 300)), edit(2, Fraction(1, 3), Fraction(5, 2))]
 RULES = (("plain", 255), ("moved", 200, 15, 130), ("mixed", 1, 2, 128, 4))
@@ -18,18 +19,6 @@ PIECES = (0, 7, 199, LEAVES)
 ROWS = [(0, 0, 8, 0, 10 ** 9, 0), (7, 199, 200, 10 ** 9, 2 * 10 ** 9, 10 ** 6)]
 INDEXES = (10 ** 9, ROWS)
 KINDS = ((HEADS, head_body, read_head), (PIECES, piece_body, read_piece), (INDEXES, index_body, read_index))
-
-
-def numbers_row(numbers):
-    """The bytes of numbers, each as written."""
-    row = []
-    for number in numbers:
-        figures = [number % 128]
-        while number >= 128:
-            number //= 128
-            figures.insert(0, 128 + number % 128)
-        row += figures
-    return row
 
 
 def row_numbers(row):
@@ -53,12 +42,6 @@ def with_part(thing, place, part):
 def no_tuples(right):
     """Things that are none, in the place of a tuple that is right."""
     return anything() + [list(right), right[:-1], right + (0,), (right,), [right]]
-
-
-def no_rows():
-    """Things that are no rows of bytes."""
-    found = [thing for thing in anything() if type(thing) is not list or any(type(byte) is not int for byte in thing)]
-    return found + [[256], [-1], (0, 1), b"ab"] + [[wrong] for wrong in no_numbers()]
 
 
 class BodyCase(unittest.TestCase):

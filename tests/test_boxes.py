@@ -4,32 +4,14 @@ import unittest
 
 from lanescroll.boxes import Feed, box, box_at, boxes_in
 from lanescroll.errors import NoBytes, NoKind, NoPlace
+from tests.byhand import box_by_hand
 from tests.oracle import dice
-from tests.things import anything, no_numbers, wrong_whole
+from tests.things import no_rows, wrong_whole
 
 BODIES = [
     [], [0], [1], [2], [255], [0, 0], [0, 0, 1], [0, 0, 1, 1], [0, 0, 2], [0, 0, 0], [1, 0, 0], [0] * 127, [0] * 128,
     [1] * 200, list(range(256)), [255] * 5, [0, 1] * 50, [0, 0, 1] * 40, [2, 0, 0, 2] * 9,
 ]
-
-
-def box_by_hand(kind, body):
-    """The row of a box, put together as point 26 tells it."""
-    length, rest = [], len(body)
-    while rest or not length:
-        rest, figure = divmod(rest, 128)
-        length.insert(0, figure + (128 if length else 0))
-    found = 1
-    for byte in [kind] + body:
-        found = (257 * found + byte) % 65521
-    inner, noughts = [], 0
-    for byte in length + body + [found // 256, found % 256]:
-        inner.append(byte)
-        noughts = noughts + 1 if byte == 0 else 0
-        if noughts == 2:
-            inner.append(2)
-            noughts = 0
-    return [0, 0, 1, kind] + inner + [255]
 
 
 def body_with_sum(kind, wanted):
@@ -66,13 +48,6 @@ def bodies_between(inner):
         content.append(byte)
         noughts = noughts + 1 if byte == 0 else 0
     return [content[ahead:-2] for ahead in (1, 2, 3) if len(content) >= ahead + 2]
-
-
-def no_rows():
-    """Things that are no rows of bytes."""
-    found = [thing for thing in anything() if type(thing) is not list or any(type(byte) is not int for byte in thing)]
-    found += [[256], [-1], [0, 0, 1, True], (0, 1), b"ab", [0] * 1000 + [256]]
-    return found + [[wrong] for wrong in no_numbers()]
 
 
 class BoxCase(unittest.TestCase):

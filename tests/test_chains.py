@@ -5,31 +5,12 @@ import unittest
 from lanescroll.chains import known, needed, table
 from lanescroll.errors import NotKnown
 from lanescroll.leaves import leaf_of
-from tests.oracle import dice, pictures, rule_needs, rule_value, rules_of, some_leaf
+from tests.oracle import dice, hung_on, needs, pictures, rule_value, rules_of, some_leaf
 
 
 def made(told):
     """The dict of leaves, of a dict of leaves as told."""
     return {number: leaf_of(leaf) for number, leaf in told.items()}
-
-
-def hung_on(told, wide, number, cell):
-    """The set of the pairs on which a cell hangs, as far as the leaves as told tell."""
-    found, waiting = set(), [(number, cell)]
-    while waiting:
-        pair = waiting.pop()
-        if pair not in found:
-            found.add(pair)
-            waiting += needs(told, wide, pair)
-    return found
-
-
-def needs(told, wide, pair):
-    """The needs of a cell, as pairs (number, cell)."""
-    if pair[0] not in told:
-        return []
-    rule = rules_of(told[pair[0]], wide)[pair[1]]
-    return [(pair[0] - back, cell) for back, cell in rule_needs(rule)]
 
 
 def some_leaves(seed, many=12):

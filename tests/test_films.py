@@ -8,7 +8,7 @@ from lanescroll.edits import part
 from lanescroll.errors import NoFilm, NoLane, NoMoment, NoNumber
 from lanescroll.films import Film, film_of
 from tests.oracle import edit, ends, leaf_at, led, pictures, probes, some_film, told, worth
-from tests.things import Touchy, anything, endless, wrong_whole
+from tests.things import Touchy, anything, no_moments, wrong_whole
 
 FULL = ("full", 0, 4, (1, 2))
 STILL = ("still", 4, 2, 1)
@@ -28,12 +28,6 @@ def lane_with(place, part):
 def film_with(place, part):
     """The film, with another part in one place."""
     return FILM[:place] + (part,) + FILM[place + 1:]
-
-
-def no_moments():
-    """Things that are no moment."""
-    found = [thing for thing in anything() if type(thing) is not tuple or len(thing) != 2]
-    return found + [(-1, 1), (2, 4), (0, 2), (1, 0), [1, 2], (True, 1), (1, True), (1, 2, 3), (endless(), 1)]
 
 
 def apart(many, wide=1):

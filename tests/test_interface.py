@@ -66,6 +66,17 @@ FUNCTIONS = {
         "read_piece": "(body)",
         "read_index": "(body)",
     },
+    "lanescroll.pieces": {
+        "piece": "(film, lane, first, many)",
+        "pieces": "(film, many=8)",
+        "due_from": "(film, lane, number)",
+        "ordered": "(film, pieces)",
+        "read_by": "(film, pieces, t)",
+    },
+    "lanescroll.files": {
+        "write": "(film, many=8)",
+        "read": "(row)",
+    },
 }
 
 RULE = {"told": "(self)", "needs": "(self)", "value": "(self, found)"}
@@ -99,6 +110,26 @@ CLASSES = {
     },
     "lanescroll.boxes": {
         "Feed": ("()", {"take": "(self, part)", "taken": "(self)"}),
+    },
+    "lanescroll.gather": {
+        "Gather": ("(seal)", {
+            "take": "(self, row)",
+            "head": "(self)",
+            "came": "(self, lane)",
+            "clashes": "(self, lane)",
+            "lost": "(self, lane)",
+            "value": "(self, lane, number, cell)",
+            "table": "(self, lane, number, cell)",
+            "picture": "(self, lane, number)",
+            "shown": "(self, lane, t)",
+            "whole": "(self)",
+            "film": "(self)",
+            "salvage": "(self)",
+            "twin": "(self)",
+        }),
+    },
+    "lanescroll.seeker": {
+        "Seeker": ("(row)", {"shown": "(self, lane, t)", "opened": "(self)", "seeks": "(self)"}),
     },
 }
 

@@ -59,3 +59,16 @@ def anything():
 def wrong_whole(low, high):
     """Things that are no whole numbers from low to high, the neighbours of both ends among them."""
     return [low - 1, high + 1, -10 ** 60, 10 ** 60 + 1, 10 ** 5000, Touchy(), endless()] + no_numbers()
+
+
+def no_moments():
+    """Things that are no moment."""
+    found = [thing for thing in anything() if type(thing) is not tuple or len(thing) != 2]
+    return found + [(-1, 1), (2, 4), (0, 2), (1, 0), [1, 2], (True, 1), (1, True), (1, 2, 3), (endless(), 1)]
+
+
+def no_rows():
+    """Things that are no rows of bytes."""
+    found = [thing for thing in anything() if type(thing) is not list or any(type(byte) is not int for byte in thing)]
+    found += [[256], [-1], [0, 0, 1, True], (0, 1), b"ab", [0] * 1000 + [256]]
+    return found + [[wrong] for wrong in no_numbers()]
