@@ -219,3 +219,19 @@ def hung_on(told, wide, number, cell):
             found.add(pair)
             waiting += needs(told, wide, pair)
     return found
+
+
+def turning_points(told_lane):
+    """The moments at which what is shown of a lane as told may turn."""
+    units, leaves, edits = told_lane
+    found, begin = {Fraction(0)}, Fraction(0)
+    for span, start, rate in edits:
+        if start is not None and rate[0] > 0:
+            for kind, leaf_begin, leaf_span, held in leaves:
+                for unit in (leaf_begin, leaf_begin + leaf_span):
+                    t = begin + (Fraction(unit, units) - Fraction(*start)) / Fraction(*rate)
+                    if begin <= t <= begin + Fraction(*span):
+                        found.add(t)
+        begin += Fraction(*span)
+        found.add(begin)
+    return found

@@ -49,6 +49,7 @@ class Write(unittest.TestCase):
             self.assert_file(FILM, many)
         self.assertEqual(write(film), file_by_hand(FILM, 8))
         self.assertEqual(write(film), write(film, 200))
+        self.assertEqual(write(film_of(chain(30))), file_by_hand(chain(30), 8))
         self.assertEqual(write(many=2, film=film), file_by_hand(FILM, 2))
 
     def test_two_hundred_leaves(self):
@@ -104,7 +105,8 @@ class Read(unittest.TestCase):
 
     def test_rows_without_a_file(self):
         row = write(film_of(FILM))
-        for wrong in ([], [0], [0, 0, 1], [7] * 50, row + [0], [0] + row, row + row, row[:-1], row[1:], row + [0, 0, 1]):
+        for wrong in ([], [0], [0, 0, 1], [7] * 50, row + [0], [0] + row, row + row, row[:-1], row[1:],
+                      row + [0, 0, 1]):
             self.assert_none(wrong)
 
     def test_each_byte_changed_left_out_or_put_in(self):

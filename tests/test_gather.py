@@ -244,7 +244,7 @@ class Heads(GatherCase):
 
     def test_lists_told_changed_by_the_asker(self):
         gather = gathered(head_box(HEAD), single(0, 0), single(0, 2), single(0, 2, LEAVES[0]))
-        before = state(gather)
+        before = copy.deepcopy(state(gather))
         head = gather.head()
         head[2][0][2].clear()
         head[2].pop()
@@ -282,7 +282,8 @@ class Coming(GatherCase):
 
     def test_what_does_not_fit_neither_comes_nor_clashes(self):
         wrongs = [("full", 0, 4, (1,)), ("full", 0, 4, (1, 2, 3)), ("still", 0, 4, 2), ("still", 0, 4, 200),
-                  ("woven", 0, 4, (("moved", 2, 0, 0), ("plain", 1))), ("woven", 0, 4, (("moved", 1, 2, 0), ("plain", 1))),
+                  ("woven", 0, 4, (("moved", 2, 0, 0), ("plain", 1))),
+                  ("woven", 0, 4, (("moved", 1, 2, 0), ("plain", 1))),
                   ("woven", 0, 4, (("mixed", 1, 0, 2, 0), ("plain", 1))), ("woven", 0, 4, (("plain", 1),))]
         for wrong in wrongs:
             gather = gathered(head_box(HEAD))
@@ -316,9 +317,11 @@ class Coming(GatherCase):
         for wrong in wrong_whole(0, 1):
             for deed in (
                 lambda: gather.came(wrong), lambda: gather.clashes(wrong), lambda: gather.lost(wrong),
-                lambda: gather.value(wrong, 0, 0), lambda: gather.value(wrong, None, 0), lambda: gather.value(wrong, 0, 99),
-                lambda: gather.table(wrong, 0, 0), lambda: gather.table(wrong, 99, 99), lambda: gather.picture(wrong, 0),
-                lambda: gather.picture(wrong, 99), lambda: gather.shown(wrong, (0, 1)), lambda: gather.shown(wrong, None),
+                lambda: gather.value(wrong, 0, 0), lambda: gather.value(wrong, None, 0),
+                lambda: gather.value(wrong, 0, 99), lambda: gather.table(wrong, 0, 0),
+                lambda: gather.table(wrong, 99, 99), lambda: gather.picture(wrong, 0),
+                lambda: gather.picture(wrong, 99), lambda: gather.shown(wrong, (0, 1)),
+                lambda: gather.shown(wrong, None),
             ):
                 with self.assertRaises(NoLane):
                     deed()

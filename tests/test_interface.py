@@ -77,6 +77,24 @@ FUNCTIONS = {
         "write": "(film, many=8)",
         "read": "(row)",
     },
+    "lanescroll.cuts": {
+        "cut": "(film, low, high)",
+        "join": "(one, other)",
+        "edited": "(film, edits)",
+        "beside": "(one, other)",
+        "only": "(film, lanes)",
+    },
+    "lanescroll.player": {
+        "changes": "(film, lane, low, high)",
+    },
+    "lanescroll.texts": {
+        "film_text": "(film)",
+        "read_text": "(text)",
+        "moment_word": "(moment)",
+        "read_moment": "(word)",
+        "hex_of": "(row)",
+        "bytes_of": "(text)",
+    },
 }
 
 RULE = {"told": "(self)", "needs": "(self)", "value": "(self, found)"}
@@ -130,6 +148,12 @@ CLASSES = {
     },
     "lanescroll.seeker": {
         "Seeker": ("(row)", {"shown": "(self, lane, t)", "opened": "(self)", "seeks": "(self)"}),
+    },
+    "lanescroll.player": {
+        "Player": ("(film)", {"play": "(self, span)", "seek": "(self, t)", "here": "(self)"}),
+    },
+    "lanescroll.desk": {
+        "Desk": ("()", {"say": "(self, row)"}),
     },
 }
 

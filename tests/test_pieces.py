@@ -134,7 +134,8 @@ class Due(unittest.TestCase):
         film = film_of((1, 1, [(2, leaves, [])]))
         self.assertEqual([due_from(film, 0, number) for number in range(9)], [(1, 2)] * 9)
         # The last one hangs on the first through the others, all of which begin later.
-        leaves = [("full", 9, 1, (1,)), ("still", 8, 1, 1), ("still", 20, 1, 1), ("still", 30, 1, 1), ("still", 1, 1, 1)]
+        leaves = [("full", 9, 1, (1,)), ("still", 8, 1, 1), ("still", 20, 1, 1), ("still", 30, 1, 1),
+                  ("still", 1, 1, 1)]
         film = film_of((1, 1, [(1, leaves, [])]))
         self.assertEqual([due_from(film, 0, number) for number in range(5)], [(1, 1)] * 5)
 
@@ -206,7 +207,8 @@ class Ordered(unittest.TestCase):
 
     def test_dues_of_lanes_of_unlike_units(self):
         lanes = [(units, [("full", begin, 1, (1,))], []) for units, begin in
-                 ((3, 1), (10 ** 6, 333333), (10 ** 6, 333334), (999999, 333333), (2, 1), (1, 0), (7, 2), (999983, 333327))]
+                 ((3, 1), (10 ** 6, 333333), (10 ** 6, 333334), (999999, 333333), (2, 1), (1, 0), (7, 2),
+                  (999983, 333327))]
         told_film = (3, 1, lanes)
         film = film_of(told_film)
         right = sorted(range(8), key=lambda lane: (Fraction(lanes[lane][1][0][1], lanes[lane][0]), lane))
@@ -263,7 +265,8 @@ class ReadBy(unittest.TestCase):
     def test_none_is_due(self):
         film = film_of((3, 1, [(2, [("full", 4, 1, (1,)), ("full", 6, 1, (1,))], [])]))
         handed = pieces(film, 1)
-        for t, many in (((0, 1), 0), ((199, 100), 0), ((2, 1), 1), ((5, 2), 1), ((299, 100), 1), ((3, 1), 2), ((9, 1), 2)):
+        for t, many in (((0, 1), 0), ((199, 100), 0), ((2, 1), 1), ((5, 2), 1), ((299, 100), 1), ((3, 1), 2),
+                        ((9, 1), 2)):
             self.assertEqual(read_by(film, handed, t), many)
         self.assertEqual(read_by(film, handed[::-1], (2, 1)), 2)
         self.assertEqual(read_by(film, [], (2, 1)), 0)

@@ -10,7 +10,7 @@ from lanescroll.films import film_of
 from lanescroll.gather import Gather
 from lanescroll.seeker import Seeker
 from tests.byhand import box_by_hand, file_by_hand, file_of, head_box, head_of, index_box, numbers_row, piece_box
-from tests.oracle import dice, edit, ends, hung_on, led, probes, some_film, told
+from tests.oracle import dice, edit, ends, hung_on, led, probes, some_film, told, turning_points
 from tests.plain import PlainSeeker, content
 from tests.things import no_moments, no_rows, wrong_whole
 
@@ -61,22 +61,6 @@ def told_of(film, lane, t):
     """What a seeker over the film's file must tell."""
     shown = film.shown(lane, t)
     return ("blank",) if shown is None else ("leaf",) + shown
-
-
-def turning_points(told_lane):
-    """The moments at which what is shown may turn."""
-    units, leaves, edits = told_lane
-    found, begin = {Fraction(0)}, Fraction(0)
-    for span, start, rate in edits:
-        if start is not None and rate[0] > 0:
-            for kind, leaf_begin, leaf_span, held in leaves:
-                for unit in (leaf_begin, leaf_begin + leaf_span):
-                    t = begin + (Fraction(unit, units) - Fraction(*start)) / Fraction(*rate)
-                    if begin <= t <= begin + Fraction(*span):
-                        found.add(t)
-        begin += Fraction(*span)
-        found.add(begin)
-    return found
 
 
 class SeekCase(unittest.TestCase):
@@ -321,8 +305,8 @@ class Kept(SeekCase):
         row = file_by_hand(FILM, 1)
         for given in (row, row[:-1]):
             seeker = Seeker(given)
-            before = seeker.opened()
-            self.assertIs(type(before), list)
+            self.assertIs(type(seeker.opened()), list)
+            before = list(seeker.opened())
             seeker.opened().clear()
             seeker.opened().append(1)
             self.assertEqual(seeker.opened(), before)
@@ -344,7 +328,8 @@ class GivingUp(SeekCase):
         self.assertIs(Seeker(with_index(row, right[::-1])).seeks(), True)
         wrongs = [right[:one] + right[one + 1:] for one in range(len(right))]
         wrongs += [right + [right[one]] for one in range(len(right))]
-        wrongs += [right + [(lane, first, 1, 0, 9, right[0][5])] for lane, first in ((0, 5), (1, 1), (2, 0), (3, 0), (7, 199))]
+        wrongs += [right + [(lane, first, 1, 0, 9, right[0][5])]
+                   for lane, first in ((0, 5), (1, 1), (2, 0), (3, 0), (7, 199))]
         for one, (lane, first, many, low, high, place) in enumerate(right):
             for changed in ((lane, first, 2, low, high, place), (lane, first + 1, many, low, high, place),
                             (lane + 1, first, many, low, high, place), (lane, first, 200, low, high, place)):
@@ -404,7 +389,8 @@ class GivingUp(SeekCase):
         row = file_by_hand(FILM, 2)
         right = index_of(row)
         places = {told_row[:2]: told_row[5] for told_row in right}
-        lane_rows = [(0, 0, 2, 10, 14, places[(0, 0)]), (0, 2, 1, 0, 2, places[(0, 2)]), (0, 3, 2, 2, 8, places[(0, 4)])]
+        lane_rows = [(0, 0, 2, 10, 14, places[(0, 0)]), (0, 2, 1, 0, 2, places[(0, 2)]),
+                     (0, 3, 2, 2, 8, places[(0, 4)])]
         self.assert_meets(row, lane_rows + [told_row for told_row in right if told_row[0] == 1])
 
     def assert_meets(self, row, rows):
